@@ -4,11 +4,12 @@ import (
 	"slices"
 
 	"ceroplast/api"
+	"ceroplast/check"
 )
 
 // Name reports whether a string is a name.
 func Name(s string) bool {
-	if !within(1, api.MaxName, len(s)) || !isLetter(s[0]) {
+	if !check.Within(1, api.MaxName, len(s)) || !isLetter(s[0]) {
 		return false
 	}
 	for i := range len(s) {
@@ -25,13 +26,13 @@ func isDigit(b byte) bool { return '0' <= b && b <= '9' }
 
 // Check returns the part, the index in it and the error of a shop.
 func Check(s api.MoShop) (part, at int, e api.Errno) {
-	if !within(1, api.MaxMoFeatures, s.Features) {
+	if !check.Within(1, api.MaxMoFeatures, s.Features) {
 		return 1, 0, api.ErrRange
 	}
 	if len(s.Moulds) > api.MaxMoMoulds {
 		return 2, 0, api.ErrLong
 	}
-	at, e = firstError(s.Moulds, func(before []api.MoMould, m api.MoMould) api.Errno {
+	at, e = check.First(s.Moulds, func(before []api.MoMould, m api.MoMould) api.Errno {
 		return mouldError(s.Features, before, m)
 	})
 	if e != api.OK {
@@ -40,7 +41,7 @@ func Check(s api.MoShop) (part, at int, e api.Errno) {
 	if len(s.Heads) > api.MaxMoHeads {
 		return 3, 0, api.ErrLong
 	}
-	at, e = firstError(s.Heads, func(before []api.MoHead, h api.MoHead) api.Errno {
+	at, e = check.First(s.Heads, func(before []api.MoHead, h api.MoHead) api.Errno {
 		return headError(s.Features, before, h)
 	})
 	if e != api.OK {
@@ -49,34 +50,24 @@ func Check(s api.MoShop) (part, at int, e api.Errno) {
 	return 0, 0, api.OK
 }
 
-// firstError returns the index of the first thing with an error, and this error; it may depend on the things before it.
-func firstError[T any](things []T, find func(before []T, thing T) api.Errno) (int, api.Errno) {
-	for i, thing := range things {
-		if e := find(things[:i], thing); e != api.OK {
-			return i, e
-		}
-	}
-	return 0, api.OK
-}
-
 func mouldError(features int, before []api.MoMould, m api.MoMould) api.Errno {
 	switch {
 	case !Name(m.Name):
 		return api.ErrForm
 	case slices.ContainsFunc(before, func(other api.MoMould) bool { return other.Name == m.Name }):
 		return api.ErrTwice
-	case !within(1, api.MaxMoCasts, m.Casts):
+	case !check.Within(1, api.MaxMoCasts, m.Casts):
 		return api.ErrRange
 	case len(m.Lasts) != features:
 		return api.ErrLong
 	}
-	_, e := firstError(m.Lasts, lastError)
+	_, e := check.First(m.Lasts, lastError)
 	return e
 }
 
 func lastError(_ []api.Span, last api.Span) api.Errno {
 	switch {
-	case !within(0, api.MaxMoLast, last.Lo, last.Hi):
+	case !check.Within(0, api.MaxMoLast, last.Lo, last.Hi):
 		return api.ErrRange
 	case last.Lo > last.Hi:
 		return api.ErrArg
@@ -92,21 +83,8 @@ func headError(features int, before []api.MoHead, h api.MoHead) api.Errno {
 		return api.ErrTwice
 	case len(h.Shows) != features:
 		return api.ErrLong
-	case !within(api.MoUnread, api.MoBlurred, h.Shows...):
+	case !check.Within(api.MoUnread, api.MoBlurred, h.Shows...):
 		return api.ErrRange
 	}
 	return api.OK
 }
-
-// within reports whether all numbers are from lo to hi.
-func within(lo, hi int, numbers ...int) bool {
-	for _, n := range numbers {
-		if n < lo || n > hi {
-			return false
-		}
-	}
-	return true
-}
-
-// isIndex reports whether all of these are indices of so many things.
-func isIndex(things int, indices ...int) bool { return within(0, things-1, indices...) }

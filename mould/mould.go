@@ -1,7 +1,10 @@
 // Package mould is layer 1: see shared/doc/01-mould.md.
 package mould
 
-import "ceroplast/api"
+import (
+	"ceroplast/api"
+	"ceroplast/check"
+)
 
 // Fits reports whether a cast could be a head's, if there were no others.
 func Fits(s api.MoShop, head int, cast api.MoCast) (bool, api.Errno) {
@@ -9,7 +12,7 @@ func Fits(s api.MoShop, head int, cast api.MoCast) (bool, api.Errno) {
 	if e != api.OK {
 		return false, e
 	}
-	if !isIndex(len(l.Heads), head) || !isIndex(len(l.Moulds), cast.Mould) || !within(1, l.Moulds[cast.Mould].Casts, cast.Number) {
+	if !check.IsIndex(len(l.Heads), head) || !check.IsIndex(len(l.Moulds), cast.Mould) || !check.Within(1, l.Moulds[cast.Mould].Casts, cast.Number) {
 		return false, api.ErrNone
 	}
 	var g given
@@ -45,7 +48,7 @@ func May(s api.MoShop, head int) ([]api.MoCast, api.Errno) {
 	if e != api.OK {
 		return nil, e
 	}
-	if !isIndex(len(l.Heads), head) {
+	if !check.IsIndex(len(l.Heads), head) {
 		return nil, api.ErrNone
 	}
 	met := map[api.MoCast]bool{}
@@ -103,7 +106,7 @@ func Lasts(s api.MoShop, mould, feature int) (api.Span, api.Errno) {
 	if e != api.OK {
 		return api.Span{}, e
 	}
-	if !isIndex(len(l.Moulds), mould) || !isIndex(l.Features, feature) {
+	if !check.IsIndex(len(l.Moulds), mould) || !check.IsIndex(l.Features, feature) {
 		return api.Span{}, api.ErrNone
 	}
 	spans, e := l.lasts(mould)
@@ -119,7 +122,7 @@ func Next(s api.MoShop, mould int) (sure, may []int, e api.Errno) {
 	if e != api.OK {
 		return nil, nil, e
 	}
-	if !isIndex(len(l.Moulds), mould) {
+	if !check.IsIndex(len(l.Moulds), mould) {
 		return nil, nil, api.ErrNone
 	}
 	spans, e := l.lasts(mould)

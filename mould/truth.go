@@ -5,6 +5,7 @@ import (
 	"math/bits"
 
 	"ceroplast/api"
+	"ceroplast/check"
 )
 
 // given is the casts that a truth gives the heads, in their order; behind the heads it is zero.
@@ -121,7 +122,7 @@ func pairings(s api.MoShop, a, b int) (map[int]bool, api.Errno) {
 	if e != api.OK {
 		return nil, e
 	}
-	if !isIndex(len(l.Heads), a, b) {
+	if !check.IsIndex(len(l.Heads), a, b) {
 		return nil, api.ErrNone
 	}
 	if a == b {
