@@ -2,10 +2,10 @@ package mould
 
 import (
 	"iter"
-	"math/bits"
 
 	"ceroplast/api"
 	"ceroplast/check"
+	"ceroplast/sets"
 )
 
 // given is the casts that a truth gives the heads, in their order; behind the heads it is zero.
@@ -35,7 +35,7 @@ func open(s api.MoShop) (look, api.Errno) {
 func (l look) left(g given, without, mould, feature int) api.Span {
 	span := l.Moulds[mould].Lasts[feature]
 	for h, head := range l.Heads {
-		if without>>h&1 == 1 || g[h].Mould != mould {
+		if sets.Has(without, h) || g[h].Mould != mould {
 			continue
 		}
 		switch head.Shows[feature] {
@@ -161,7 +161,7 @@ func (l look) wrong() int {
 	best := 1<<(len(l.Heads)*l.Features) - 1
 	anyCast := func(given, int) bool { return true }
 	for g := range l.placings(anyCast) {
-		if set := l.against(g); fewer(set, best) {
+		if set := l.against(g); sets.Fewer(set, best) {
 			best = set
 		}
 	}
@@ -174,7 +174,7 @@ func (l look) against(g given) int {
 	for f := range l.Features {
 		heads := l.headsAgainst(g, f)
 		for h := range l.Heads {
-			if heads>>h&1 == 1 {
+			if sets.Has(heads, h) {
 				set |= 1 << (h*l.Features + f)
 			}
 		}
@@ -184,23 +184,7 @@ func (l look) against(g given) int {
 
 // headsAgainst returns the heads, as bits, of the entries of against that are of a feature. No smallest set has a head that has it MoUnread: leaving that one out changes nothing.
 func (l look) headsAgainst(g given, feature int) int {
-	best := 1<<len(l.Heads) - 1
-	for set := range best {
-		if fewer(set, best) && l.leaves(g, set, feature) {
-			best = set
-		}
-	}
-	return best
-}
-
-// fewer reports whether a set is smaller than another one, or as large, but the first one of the two as a list.
-func fewer(a, b int) bool {
-	if n, m := bits.OnesCount(uint(a)), bits.OnesCount(uint(b)); n != m {
-		return n < m
-	}
-	differ := a ^ b
-	first := differ & -differ
-	return a&first != 0
+	return sets.Fewest(len(l.Heads), func(set int) bool { return l.leaves(g, set, feature) })
 }
 
 // entries returns the entries of a set, in order.
@@ -208,7 +192,7 @@ func (l look) entries(set int) []api.MoEntry {
 	var list []api.MoEntry
 	for h := range l.Heads {
 		for f := range l.Features {
-			if set>>(h*l.Features+f)&1 == 1 {
+			if sets.Has(set, h*l.Features+f) {
 				list = append(list, api.MoEntry{Head: h, Feature: f})
 			}
 		}

@@ -7,6 +7,7 @@ import (
 
 	"ceroplast/api"
 	"ceroplast/check"
+	"ceroplast/sets"
 )
 
 // wholeParts are the parts of which an order says how many are tallow, and colour.
@@ -58,10 +59,8 @@ func meltable(heads []api.WxHead) [][]int {
 	var lists [][]int
 	for set := range 1 << len(free) {
 		var list []int
-		for i, h := range free {
-			if set>>i&1 == 1 {
-				list = append(list, h)
-			}
+		for _, i := range sets.List(set) {
+			list = append(list, free[i])
 		}
 		lists = append(lists, list)
 	}
