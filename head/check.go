@@ -11,24 +11,16 @@ import (
 
 // Check returns the part, the index in it and the error of a book.
 func Check(b api.HeBook) (part, at int, e api.Errno) {
-	if len(b.Bodies) > api.MaxHeBodies {
-		return 1, 0, api.ErrLong
-	}
-	at, e = check.First(b.Bodies, bodyError)
-	if e != api.OK {
+	if at, e := check.List(b.Bodies, api.MaxHeBodies, bodyError); e != api.OK {
 		return 1, at, e
 	}
 	if len(b.Heads) != len(b.Bodies) {
 		return 2, 0, api.ErrLong
 	}
-	at, e = check.First(b.Heads, headError)
-	if e != api.OK {
+	if at, e := check.First(b.Heads, headError); e != api.OK {
 		return 2, at, e
 	}
-	if len(b.Lines) > api.MaxHeLines {
-		return 3, 0, api.ErrLong
-	}
-	at, e = check.First(b.Lines, func(before []api.HeLine, line api.HeLine) api.Errno {
+	at, e = check.List(b.Lines, api.MaxHeLines, func(before []api.HeLine, line api.HeLine) api.Errno {
 		return lineError(len(b.Bodies), before, line)
 	})
 	if e != api.OK {
@@ -43,10 +35,8 @@ func bodyError(before []api.HeBody, b api.HeBody) api.Errno {
 		return api.ErrForm
 	case slices.ContainsFunc(before, func(other api.HeBody) bool { return other.Name == b.Name }):
 		return api.ErrTwice
-	case len(b.Shown) > api.MaxHeShown:
-		return api.ErrLong
 	}
-	_, e := check.First(b.Shown, shownError)
+	_, e := check.List(b.Shown, api.MaxHeShown, shownError)
 	return e
 }
 

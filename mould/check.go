@@ -29,19 +29,13 @@ func Check(s api.MoShop) (part, at int, e api.Errno) {
 	if !check.Within(1, api.MaxMoFeatures, s.Features) {
 		return 1, 0, api.ErrRange
 	}
-	if len(s.Moulds) > api.MaxMoMoulds {
-		return 2, 0, api.ErrLong
-	}
-	at, e = check.First(s.Moulds, func(before []api.MoMould, m api.MoMould) api.Errno {
+	at, e = check.List(s.Moulds, api.MaxMoMoulds, func(before []api.MoMould, m api.MoMould) api.Errno {
 		return mouldError(s.Features, before, m)
 	})
 	if e != api.OK {
 		return 2, at, e
 	}
-	if len(s.Heads) > api.MaxMoHeads {
-		return 3, 0, api.ErrLong
-	}
-	at, e = check.First(s.Heads, func(before []api.MoHead, h api.MoHead) api.Errno {
+	at, e = check.List(s.Heads, api.MaxMoHeads, func(before []api.MoHead, h api.MoHead) api.Errno {
 		return headError(s.Features, before, h)
 	})
 	if e != api.OK {
@@ -61,18 +55,7 @@ func mouldError(features int, before []api.MoMould, m api.MoMould) api.Errno {
 	case len(m.Lasts) != features:
 		return api.ErrLong
 	}
-	_, e := check.First(m.Lasts, lastError)
-	return e
-}
-
-func lastError(_ []api.Span, last api.Span) api.Errno {
-	switch {
-	case !check.Within(0, api.MaxMoLast, last.Lo, last.Hi):
-		return api.ErrRange
-	case last.Lo > last.Hi:
-		return api.ErrArg
-	}
-	return api.OK
+	return check.Spans(0, api.MaxMoLast, m.Lasts...)
 }
 
 func headError(features int, before []api.MoHead, h api.MoHead) api.Errno {

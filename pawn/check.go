@@ -10,28 +10,16 @@ import (
 
 // Check returns the part, the index in it and the error of a show.
 func Check(s api.PaShow) (part, at int, e api.Errno) {
-	if len(s.Gowns) > api.MaxPaGowns {
-		return 1, 0, api.ErrLong
-	}
-	at, e = check.First(s.Gowns, gownError)
-	if e != api.OK {
+	if at, e := check.List(s.Gowns, api.MaxPaGowns, gownError); e != api.OK {
 		return 1, at, e
 	}
-	if len(s.Figures) > api.MaxPaFigures {
-		return 2, 0, api.ErrLong
-	}
-	at, e = check.First(s.Figures, figureError)
-	if e != api.OK {
+	if at, e := check.List(s.Figures, api.MaxPaFigures, figureError); e != api.OK {
 		return 2, at, e
 	}
 	if !check.Within(0, api.MaxPaPence, s.Purse) {
 		return 3, 0, api.ErrRange
 	}
-	if len(s.Incomes) > api.MaxPaIncomes {
-		return 4, 0, api.ErrLong
-	}
-	at, e = check.First(s.Incomes, incomeError)
-	if e != api.OK {
+	if at, e := check.List(s.Incomes, api.MaxPaIncomes, incomeError); e != api.OK {
 		return 4, at, e
 	}
 	return 0, 0, api.OK

@@ -13,18 +13,10 @@ func Check(s api.WxStore) (part, at int, e api.Errno) {
 	if !check.Within(0, api.MaxWxOunces, s.Lots[:]...) || !check.Within(1, api.MaxDay, s.Fade) {
 		return 1, 0, api.ErrRange
 	}
-	if len(s.Heads) > api.MaxWxHeads {
-		return 2, 0, api.ErrLong
-	}
-	at, e = check.First(s.Heads, headError)
-	if e != api.OK {
+	if at, e := check.List(s.Heads, api.MaxWxHeads, headError); e != api.OK {
 		return 2, at, e
 	}
-	if len(s.Orders) > api.MaxWxOrders {
-		return 3, 0, api.ErrLong
-	}
-	at, e = check.First(s.Orders, orderError)
-	if e != api.OK {
+	if at, e := check.List(s.Orders, api.MaxWxOrders, orderError); e != api.OK {
 		return 3, at, e
 	}
 	return 0, 0, api.OK
