@@ -6,6 +6,7 @@ import (
 	"slices"
 
 	"ceroplast/api"
+	"ceroplast/pick"
 )
 
 // look is a show without an error that is looked at.
@@ -203,7 +204,7 @@ func (l look) least(costs map[holding]int) price {
 			}
 		}
 	}
-	p, _ := best(prices, func(a, b price) int {
+	p, _ := pick.Least(prices, func(a, b price) int {
 		return cmp.Or(cmp.Compare(a.without, b.without), cmp.Compare(a.cost, b.cost))
 	})
 	return p
@@ -220,16 +221,4 @@ func (l look) shortages(most int) iter.Seq[int] {
 			}
 		}
 	}
-}
-
-// best returns the first of the least things, and whether there is any.
-func best[T any](things iter.Seq[T], compare func(a, b T) int) (T, bool) {
-	var first T
-	found := false
-	for thing := range things {
-		if !found || compare(thing, first) < 0 {
-			first, found = thing, true
-		}
-	}
-	return first, found
 }
